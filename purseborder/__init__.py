@@ -1,0 +1,1 @@
+"""Purseborder: two purses, two hands, and what is enough for ever."""

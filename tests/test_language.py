@@ -1,0 +1,173 @@
+"""Holds the package to the part of Python that it keeps to, as far as the rules can be seen in a file's tree."""
+
+import ast
+import pathlib
+import re
+import unittest
+
+PACKAGE = "purseborder"
+FOLDER = pathlib.Path(__file__).resolve().parent.parent / PACKAGE
+
+NODES = """
+    Module Import ImportFrom alias FunctionDef ClassDef arguments arg Lambda Return Assign AugAssign AnnAssign For While
+    If Raise Try ExceptHandler Expr Pass Break Continue BoolOp And Or BinOp Add Sub Mult FloorDiv Mod Pow LShift RShift
+    BitOr BitXor BitAnd UnaryOp Not USub UAdd Invert IfExp Dict Set ListComp comprehension Compare Eq NotEq Lt LtE Gt
+    GtE Is IsNot In NotIn Call keyword JoinedStr FormattedValue Constant Attribute Subscript Name List Tuple Slice Load
+    Store
+""".split()
+BUILT_IN = """
+    len range enumerate zip min max sum abs sorted reversed int str bool list tuple dict set isinstance ord repr any all
+    divmod Exception ValueError TypeError KeyError IndexError LookupError ZeroDivisionError ArithmeticError
+    OverflowError RuntimeError NotImplementedError AttributeError StopIteration frozenset
+""".split()
+METHODS = """
+    append clear copy count endswith extend find get index insert isalnum isalpha isdigit islower isspace isupper items
+    join keys ljust lower lstrip partition pop remove replace reverse rfind rjust rpartition rsplit rstrip setdefault
+    split splitlines startswith strip update upper values zfill bit_length
+""".split()
+DOUBLE = "__init__ __eq__ __repr__ __str__ __len__".split()
+WORDS = """
+    type typing typing_extensions enum Enum IntEnum StrEnum Flag IntFlag Generic Protocol ABC ABCMeta namedtuple
+    NamedTuple TypedDict TYPE_CHECKING abstractmethod
+""".split()
+
+
+def files():
+    return sorted(path for path in FOLDER.rglob("*") if path.is_file() and "__pycache__" not in path.parts)
+
+
+def tree_of(path):
+    return ast.parse(path.read_text(encoding="utf-8"))
+
+
+def bound_in(tree):
+    """Every name that is bound somewhere in a file, by whatever."""
+    for node in ast.walk(tree):
+        if isinstance(node, (ast.FunctionDef, ast.ClassDef)):
+            yield node.name
+        elif isinstance(node, ast.Name) and isinstance(node.ctx, ast.Store):
+            yield node.id
+        elif isinstance(node, ast.arg):
+            yield node.arg
+        elif isinstance(node, ast.alias):
+            yield node.asname or node.name
+        elif isinstance(node, ast.ExceptHandler) and node.name:
+            yield node.name
+
+
+def own_attributes():
+    """The methods of the package's classes, and the values of their objects."""
+    for path in files():
+        for node in ast.walk(tree_of(path)):
+            if isinstance(node, ast.ClassDef):
+                yield from [inner.name for inner in node.body if isinstance(inner, ast.FunctionDef)]
+            elif isinstance(node, ast.Attribute) and isinstance(node.ctx, ast.Store):
+                yield node.attr
+
+
+def drawn_from(path):
+    return [node.module for node in ast.walk(tree_of(path)) if isinstance(node, ast.ImportFrom)]
+
+
+class Language(unittest.TestCase):
+    def test_files(self):
+        self.assertTrue(files())
+        for path in files():
+            self.assertRegex(path.relative_to(FOLDER).as_posix(), r"\A[a-z0-9_]+\.py\Z")
+            self.assertNotRegex(path.name, r"\A(test|site\.|conftest|sitecustom|usercustom)")
+
+    def test_signs_words_and_lengths(self):
+        for path in files():
+            text = path.read_bytes().decode("ascii")
+            lines = text.split("\n")
+            self.assertRegex(text, r"\A[ -~\n]*\Z", path)
+            self.assertLessEqual(len(lines), 400, path)
+            self.assertLessEqual(max(len(line) for line in lines), 120, path)
+            self.assertNotRegex(text, r"\b(" + "|".join(WORDS) + r")\b", path)
+            self.assertNotRegex(text, "dataclass|overload|contextmanager", path)
+            for node in ast.walk(tree_of(path)):
+                if isinstance(node, ast.FunctionDef):
+                    self.assertLessEqual(node.end_lineno - node.lineno + 1, 40, (path, node.name))
+
+    def test_nodes(self):
+        for path in files():
+            for node in ast.walk(tree_of(path)):
+                where = (path.name, getattr(node, "lineno", None), type(node).__name__)
+                self.assertIn(type(node).__name__, NODES, where)
+                if isinstance(node, ast.Constant):
+                    self.assertIsInstance(node.value, (int, str, type(None)), where)
+                    self.assertNotIn("%", str(node.value), where)
+                if isinstance(node, ast.Assign):
+                    self.assertEqual(len(node.targets), 1, where)
+                if isinstance(node, ast.arguments):
+                    self.assertFalse(node.vararg or node.kwarg or node.kwonlyargs or node.posonlyargs, where)
+                if isinstance(node, (ast.FunctionDef, ast.ClassDef)):
+                    self.assertFalse(node.decorator_list, where)
+                if isinstance(node, (ast.For, ast.While)):
+                    self.assertFalse(node.orelse, where)
+                if isinstance(node, ast.Try):
+                    self.assertFalse(node.finalbody, where)
+                if isinstance(node, ast.ListComp):
+                    self.assertEqual(len(node.generators), 1, where)
+                    self.assertLessEqual(len(node.generators[0].ifs), 1, where)
+                if isinstance(node, ast.FormattedValue):
+                    self.assertIsInstance(node.value, ast.Name, where)
+                if isinstance(node, ast.Compare) and isinstance(node.ops[0], (ast.Is, ast.IsNot)):
+                    self.assertIn(ast.unparse(node.comparators[0]), ("None", "True", "False"), where)
+
+    def test_names(self):
+        for path in files():
+            bound = set(bound_in(tree_of(path)))
+            for name in bound:
+                if name not in DOUBLE:
+                    self.assertTrue(re.fullmatch("[A-Za-z][A-Za-z0-9_]*", name), (path, name))
+                builtins = vars(__import__("builtins"))
+                self.assertNotIn(name, builtins, path)
+            for node in ast.walk(tree_of(path)):
+                if isinstance(node, ast.Name) and isinstance(node.ctx, ast.Load) and node.id not in bound:
+                    self.assertIn(node.id, BUILT_IN, path)
+
+    def test_attributes(self):
+        own = set(own_attributes())
+        for path in files():
+            for node in ast.walk(tree_of(path)):
+                if isinstance(node, ast.Attribute) and isinstance(node.ctx, ast.Load):
+                    self.assertIn(node.attr, own | set(METHODS), (path, node.lineno))
+
+    def test_tops_of_files(self):
+        for path in files():
+            names = []
+            for node in tree_of(path).body:
+                kinds = (ast.Expr, ast.ImportFrom, ast.FunctionDef, ast.ClassDef, ast.Assign)
+                self.assertIsInstance(node, kinds, (path, node.lineno))
+                if isinstance(node, ast.Expr):
+                    self.assertIsInstance(node.value, ast.Constant, (path, node.lineno))
+                if isinstance(node, ast.Assign):
+                    self.assertFalse([n for n in ast.walk(node) if isinstance(n, ast.Call)], (path, node.lineno))
+                    names.append(node.targets[0].id)
+                if isinstance(node, (ast.FunctionDef, ast.ClassDef)):
+                    names.append(node.name)
+            self.assertEqual(len(names), len(set(names)), path)
+
+    def test_imports_go_one_way(self):
+        for path in files():
+            for node in ast.walk(tree_of(path)):
+                self.assertNotIsInstance(node, ast.Import, path)
+                if isinstance(node, ast.ImportFrom):
+                    self.assertEqual(node.level, 0, path)
+                    self.assertTrue(node.module.startswith(PACKAGE + "."), path)
+                    source = FOLDER / (node.module.split(".")[1] + ".py")
+                    defined = [n.name for n in tree_of(source).body if isinstance(n, (ast.FunctionDef, ast.ClassDef))]
+                    values = [n.targets[0].id for n in tree_of(source).body if isinstance(n, ast.Assign)]
+                    for name in node.names:
+                        self.assertIn(name.name, defined + values, path)
+        left = {f"{PACKAGE}.{path.stem}": drawn_from(path) for path in files()}
+        while left:
+            free = [name for name in left if not any(other in left for other in left[name])]
+            self.assertTrue(free, f"these draw from one another: {sorted(left)}")
+            for name in free:
+                left.pop(name)
+
+
+if __name__ == "__main__":
+    unittest.main()
