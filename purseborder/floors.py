@@ -1,6 +1,6 @@
 """Floors: tuples (brims, owners, ways, stalls), and what is asked of them."""
 
-from purseborder.errors import NoPlace
+from purseborder.errors import NoPair, NoPlace
 
 KEEPER = "keeper"
 TAKER = "taker"
@@ -18,6 +18,11 @@ def is_whole(thing):
 def is_whole_within(thing, least, most):
     """Whether it is a whole number from least to most."""
     return is_whole(thing) and least <= thing <= most
+
+
+def is_from_nought_on(thing):
+    """Whether it is a whole number that isn't below 0, however great."""
+    return is_whole(thing) and thing >= 0
 
 
 def is_row_within(thing, bounds):
@@ -91,6 +96,12 @@ def check_place(floor, place):
     """Refuse what is no place of the floor, whatever it is."""
     if not is_whole_within(place, 0, places_of(floor) - 1):
         raise NoPlace(place)
+
+
+def check_pair(floor, pair):
+    """Refuse what is no pair within the brims of the floor, whatever it is."""
+    if not is_row_within(pair, ((0, floor[0][0]), (0, floor[0][1]))):
+        raise NoPair(pair)
 
 
 def ways_from(floor, place):

@@ -32,6 +32,17 @@ WORDS = """
 """.split()
 
 
+WALKED = "zip enumerate reversed range items keys values".split()
+WALKERS = "list tuple dict sorted sum any all enumerate zip min max join".split()
+
+
+def called_as(node):
+    """The name of the function or method that is called here, or None."""
+    if not isinstance(node, ast.Call):
+        return None
+    return node.func.id if isinstance(node.func, ast.Name) else node.func.attr
+
+
 def files():
     return sorted(path for path in FOLDER.rglob("*") if path.is_file() and "__pycache__" not in path.parts)
 
@@ -133,6 +144,48 @@ class Language(unittest.TestCase):
             for node in ast.walk(tree_of(path)):
                 if isinstance(node, ast.Attribute) and isinstance(node.ctx, ast.Load):
                     self.assertIn(node.attr, own | set(METHODS), (path, node.lineno))
+
+    def test_no_local_is_called_like_what_the_top_binds(self):
+        for path in files():
+            top = []
+            for node in tree_of(path).body:
+                if isinstance(node, (ast.FunctionDef, ast.ClassDef)):
+                    top.append(node.name)
+                elif isinstance(node, ast.ImportFrom):
+                    top.extend(name.name for name in node.names)
+                elif isinstance(node, ast.Assign):
+                    top.append(node.targets[0].id)
+            self.assertEqual(len(top), len(set(top)), path)
+            for function in ast.walk(tree_of(path)):
+                if isinstance(function, (ast.FunctionDef, ast.Lambda)):
+                    inner = function.body if isinstance(function, ast.FunctionDef) else [function.body]
+                    for name in bound_in(ast.Module([function.args] + inner, [])):
+                        self.assertNotIn(name, top, (path, function.lineno))
+
+    def test_nothing_imported_is_left_unused(self):
+        for path in files():
+            used = [node.id for node in ast.walk(tree_of(path)) if isinstance(node, ast.Name)]
+            for node in ast.walk(tree_of(path)):
+                if isinstance(node, ast.ImportFrom):
+                    for name in node.names:
+                        self.assertIn(name.name, used, path)
+
+    def test_walked_at_once_and_sets_on_the_spot(self):
+        for path in files():
+            for parent in ast.walk(tree_of(path)):
+                for node in ast.iter_child_nodes(parent):
+                    called = called_as(node)
+                    where = (path.name, getattr(node, "lineno", None))
+                    if called in WALKED:
+                        walks = isinstance(parent, (ast.For, ast.comprehension)) and parent.iter is node
+                        self.assertTrue(walks or called_as(parent) in WALKERS, where)
+                    if called == "set":
+                        asks = [type(asked) for asked in getattr(parent, "ops", [])]
+                        compared = asks in ([ast.In], [ast.NotIn], [ast.Eq], [ast.NotEq])
+                        self.assertTrue(compared or called_as(parent) in ("sorted", "len"), where)
+                        self.assertFalse(getattr(parent, "keywords", []), where)
+                    self.assertNotIsInstance(node, ast.Set, where)
+                    self.assertNotIsInstance(node, ast.Pow, where)
 
     def test_tops_of_files(self):
         for path in files():
