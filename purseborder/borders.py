@@ -61,15 +61,19 @@ def keeper_deed(floor, place, pair):
     return deed_into(floor, place, pair, borders(floor))
 
 
+def way_out_of(floor, place, pair, told):
+    """A way by which, in the told rounds, a pair at a taker's place lasts fewer steps; None where it is enough."""
+    steps = first_without(told, place, pair)
+    if steps is None:
+        return None
+    # A taker's place holds what each way leads into the round ahead: here at least one way doesn't.
+    return [way for way in ways_from(floor, place) if not leads_into(floor, pair, way, told[steps - 1])][0]
+
+
 def taker_way(floor, place, pair):
     """A way by which a pair that isn't enough lasts fewer steps; None where it is, or at a keeper's place."""
     check_place(floor, place)
     check_pair(floor, pair)
     if floor[1][place] == KEEPER:
         return None
-    told = rounds(floor)
-    steps = first_without(told, place, pair)
-    if steps is None:
-        return None
-    # A taker's place holds what each way leads into the round ahead: here at least one way doesn't.
-    return [way for way in ways_from(floor, place) if not leads_into(floor, pair, way, told[steps - 1])][0]
+    return way_out_of(floor, place, pair, rounds(floor))

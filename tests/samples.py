@@ -29,7 +29,7 @@ NO_COUNTS = NO_NUMBERS + ((0, 0), (1, 1), -1, -2, -GREAT, -10 ** 5000)
 
 def beyond(many):
     """What is no number of one of so many things: of any kind, and one beyond the bounds."""
-    return NO_COUNTS + (many, many + 1, 8, 24, GREAT, 10 ** 5000)
+    return NO_COUNTS + (many, many + 1, many + 8, many + 24, GREAT, 10 ** 5000)
 
 
 def no_pairs(floor):
@@ -62,6 +62,11 @@ TEXTS = {
     "stall needed": "brims 12 12; keeper; taker; 0>1 0 -1; 1>0 1 0; 1>0 2 -1; stall 0 a 2 3",
     "stall of great use": "brims 12 12; keeper; taker; 0>1 -1 0; 0>1 0 -2; 1>0 -3 3; 1>0 0 3; stall 0 b 2 5",
     "steep": "brims 12 12; keeper; taker; 0>0 -1 1; 0>1 2 -3; 1>0 -1 3; 1>0 2 0",
+    "long": "brims 11 7; keeper; keeper; keeper; keeper; taker; 0>2 0 -4; 0>3 4 0; 0>4 0 2; 1>0 -5 0; 1>1 3 -1; "
+            "2>0 -1 5; 2>2 3 -4; 3>3 6 -4; 4>0 -5 2; 4>1 -3 7; stall 1 a 1 3; stall 2 a 1 1; stall 3 b 3 0",
+    "wide borders": "brims 9 11; keeper; keeper; keeper; taker; keeper; 0>2 -6 1; 0>2 -5 -5; 1>3 3 -2; 2>2 0 -5; "
+                    "2>2 2 6; 2>4 0 -3; 3>1 0 1; 3>2 0 -6; 4>0 -5 2; 4>4 -6 0; stall 0 b 2 2; stall 1 b 1 1; "
+                    "stall 2 b 1 1; stall 4 b 3 3",
     "one way out": "brims 3 5; keeper; keeper; taker; 0>0 0 -1; 0>1 -3 0; 1>1 0 0; 2>0 0 -1; 2>2 -1 0",
 }
 FLOORS = {name: read_floor(text) for name, text in TEXTS.items()}
@@ -120,7 +125,7 @@ def made_floors(many, brim=6, coins=3, places=4):
 
 def small_floors():
     """Floors of which every place and pair may be asked for."""
-    named = [floor for floor in FLOORS.values() if max(floor[0]) < 12]
+    named = [floor for floor in FLOORS.values() if max(floor[0]) < 10]
     return named + made_floors(60, 4)
 
 
@@ -190,6 +195,21 @@ def held_in_rounds(floor):
         told.append(behind)
 
 
+def held_for_ever(floor):
+    """Point 14: for each place the enough pairs."""
+    return held_in_rounds(floor)[-1]
+
+
+def lasting(floor):
+    """Point 13: for each (place, pair) the number of steps that it lasts, None for ever."""
+    told = {stand: None for stand in places_and_pairs(floor)}
+    for number, held in reversed(list(enumerate(held_in_rounds(floor)))):
+        for place, pair in told:
+            if pair not in held[place]:
+                told[place, pair] = number
+    return told
+
+
 def held_by(border, brims):
     """Point 6: the pairs within the brims that a border holds."""
     return {pair for pair in pairs_within(brims) if any(pair[0] >= x and pair[1] >= y for x, y in border)}
@@ -210,6 +230,12 @@ class Refusing(unittest.TestCase):
             asked(*arguments)
         self.assertIs(type(taken.exception), error)
         self.assertIs(getattr(taken.exception, field), thing)
+
+    def refused_without_field(self, error, asked, *arguments):
+        with self.assertRaises(error) as taken:
+            asked(*arguments)
+        self.assertIs(type(taken.exception), error)
+        self.assertEqual(vars(taken.exception), {})
 
     def place_and_pair_refused(self, asked):
         """What asks for a floor, a place and a pair refuses other places, then other pairs, of any kind."""

@@ -30,8 +30,17 @@ WORDS = """
     type typing typing_extensions enum Enum IntEnum StrEnum Flag IntFlag Generic Protocol ABC ABCMeta namedtuple
     NamedTuple TypedDict TYPE_CHECKING abstractmethod
 """.split()
-
-
+NOWHERE = """
+    register mro elements open input version_info with_traceback add_note format format_map f_back f_locals f_globals
+    f_code f_builtins f_lineno tb_next tb_frame co_names co_code co_consts gi_frame cr_frame
+""".split()
+NO_NAMES = """
+    attrgetter breakpoint builtins compile copyright credits delattr dir eval exec exit gc getattr globals hasattr help
+    id importlib license locals methodcaller os quit setattr super type vars sys
+""".split()
+OWN_METHODS = METHODS + ["add", "discard"]
+OWN_VALUES = "count index title find get join lower upper split strip copy add".split()
+PYTHONS_OWN = {name for kind in (str, int, list, dict, set, bytes) for name in dir(kind)}
 WALKED = "zip enumerate reversed range items keys values".split()
 WALKERS = "list tuple dict sorted sum any all enumerate zip min max join".split()
 
@@ -40,7 +49,7 @@ def called_as(node):
     """The name of the function or method that is called here, or None."""
     if not isinstance(node, ast.Call):
         return None
-    return node.func.id if isinstance(node.func, ast.Name) else node.func.attr
+    return getattr(node.func, "id", getattr(node.func, "attr", None))
 
 
 def files():
@@ -201,6 +210,84 @@ class Language(unittest.TestCase):
                 if isinstance(node, (ast.FunctionDef, ast.ClassDef)):
                     names.append(node.name)
             self.assertEqual(len(names), len(set(names)), path)
+
+    def test_values_of_tops(self):
+        for path in files():
+            above = []
+            for node in tree_of(path).body:
+                if isinstance(node, ast.FunctionDef):
+                    above.append(node.name)
+                if isinstance(node, ast.Assign):
+                    outer = node.value
+                    inner = list(ast.walk(outer))
+                    for part in inner:
+                        where = (path.name, part.lineno if hasattr(part, "lineno") else node.lineno)
+                        if isinstance(part, ast.Name):
+                            self.assertIn(part.id, above, where)
+                        elif not isinstance(part, (ast.Load, ast.Constant, ast.Tuple, ast.USub, ast.UnaryOp)):
+                            self.assertIsInstance(part, (ast.List, ast.Dict), where)
+                            self.assertIs(part, outer, where)
+
+    def test_what_tops_keep_is_only_read(self):
+        for path in files():
+            tree = tree_of(path)
+            kept = [node.targets[0].id for node in tree.body
+                    if isinstance(node, ast.Assign) and isinstance(node.value, (ast.List, ast.Dict))]
+            for parent in ast.walk(tree):
+                for node in ast.iter_child_nodes(parent):
+                    if isinstance(node, ast.Name) and node.id in kept and isinstance(node.ctx, ast.Load):
+                        read = isinstance(parent, ast.Subscript) and isinstance(parent.ctx, ast.Load)
+                        asked = isinstance(parent, ast.Compare) and isinstance(parent.ops[0], (ast.In, ast.NotIn))
+                        self.assertTrue(read or asked, (path.name, node.lineno))
+
+    def test_classes(self):
+        methods, values = set(), set()
+        for path in files():
+            tree = tree_of(path)
+            classes = [node for node in tree.body if isinstance(node, ast.ClassDef)]
+            self.assertEqual(len(classes), len([node for node in ast.walk(tree) if isinstance(node, ast.ClassDef)]))
+            for node in classes:
+                self.assertLessEqual(len(node.bases), 1, node.name)
+                self.assertFalse(node.keywords, node.name)
+                defined = [inner.name for inner in node.body if isinstance(inner, ast.FunctionDef)]
+                self.assertEqual(len(defined), len(set(defined)), node.name)
+                for inner in node.body:
+                    text = isinstance(inner, ast.Expr) and isinstance(inner.value, ast.Constant)
+                    self.assertTrue(text or isinstance(inner, ast.FunctionDef), (node.name, inner.lineno))
+                methods.update(defined)
+            for node in ast.walk(tree):
+                if isinstance(node, ast.Attribute) and isinstance(node.ctx, ast.Store):
+                    values.add(node.attr)
+                    self.assertEqual(ast.unparse(node.value), "self", (path.name, node.lineno))
+        self.assertFalse(methods & values)
+        for name in methods - set(DOUBLE):
+            self.assertTrue(name not in PYTHONS_OWN or name in OWN_METHODS, name)
+        for name in values:
+            self.assertTrue(name not in PYTHONS_OWN or name in OWN_VALUES, name)
+            self.assertNotEqual(name, "args")
+
+    def test_classes_are_called_raised_or_stood_under(self):
+        named = [node.name for path in files() for node in tree_of(path).body if isinstance(node, ast.ClassDef)]
+        for path in files():
+            for parent in ast.walk(tree_of(path)):
+                for node in ast.iter_child_nodes(parent):
+                    if isinstance(node, ast.Name) and node.id in named:
+                        called = isinstance(parent, ast.Call) and parent.func is node
+                        under = isinstance(parent, (ast.ClassDef, ast.ExceptHandler))
+                        self.assertTrue(called or under, (path.name, node.lineno))
+
+    def test_errors_are_made_on_the_spot(self):
+        for path in files():
+            for node in ast.walk(tree_of(path)):
+                if isinstance(node, ast.Raise):
+                    self.assertIsInstance(node.exc, ast.Call, (path.name, node.lineno))
+
+    def test_names_that_are_not_used(self):
+        for path in files():
+            for node in ast.walk(tree_of(path)):
+                for name in (getattr(node, "id", None), getattr(node, "name", None), getattr(node, "arg", None)):
+                    self.assertNotIn(name, NOWHERE + NO_NAMES, path)
+                self.assertNotIn(getattr(node, "attr", None), NOWHERE, path)
 
     def test_imports_go_one_way(self):
         for path in files():
